@@ -16,22 +16,24 @@ type stage struct{ packs, ways string }
 func stages() []stage {
 	return []stage{
 		{"bits word", "variadic closure embedding promoted range-integer"},
+		{"poly frame", "method-value variadic struct-compared clear copy"},
 	}
 }
 
 // look is a view of the program's packages with the types of what stands in them.
 type look struct {
-	files map[string][]*ast.File
-	fset  *token.FileSet
-	info  types.Info
-	done  map[string]*types.Package
-	std   types.Importer
+	files  map[string][]*ast.File
+	fset   *token.FileSet
+	info   types.Info
+	done   map[string]*types.Package
+	std    types.Importer
+	called map[ast.Expr]bool // what stands ahead of a call's arguments
 }
 
 func newLook(t *testing.T) *look {
 	t.Helper()
-	l := &look{files: map[string][]*ast.File{}, done: map[string]*types.Package{}}
-	l.info = types.Info{Types: map[ast.Expr]types.TypeAndValue{}, Selections: map[*ast.SelectorExpr]*types.Selection{}}
+	l := &look{files: map[string][]*ast.File{}, done: map[string]*types.Package{}, called: map[ast.Expr]bool{}}
+	l.info = types.Info{Types: map[ast.Expr]types.TypeAndValue{}, Uses: map[*ast.Ident]types.Object{}, Selections: map[*ast.SelectorExpr]*types.Selection{}}
 	for _, s := range sources(t) {
 		l.files[s.pack] = append(l.files[s.pack], s.tree)
 		l.fset = s.fset
@@ -54,32 +56,56 @@ func (l *look) Import(path string) (*types.Package, error) {
 	return p, err
 }
 
-// way is the way that stands at a node, if it is one of those that are known here.
-func (l *look) way(n ast.Node) string {
+// ways are those that stand at a node, of such as are known here.
+func (l *look) ways(n ast.Node) []string {
 	switch x := n.(type) {
 	case *ast.Ellipsis:
 		if x.Elt != nil {
-			return "variadic"
+			return []string{"variadic"}
 		}
 	case *ast.FuncLit:
-		return "closure"
+		return []string{"closure"}
 	case *ast.StructType:
 		for _, f := range x.Fields.List {
 			if len(f.Names) == 0 {
-				return "embedding"
+				return []string{"embedding"}
 			}
 		}
 	case *ast.SelectorExpr:
-		if s := l.info.Selections[x]; s != nil && len(s.Index()) > 1 {
-			return "promoted"
-		}
+		return l.waysOfSelector(x)
 	case *ast.RangeStmt:
-		t := l.info.Types[x.X].Type
-		if b, is := t.Underlying().(*types.Basic); is && b.Info()&types.IsInteger != 0 {
-			return "range-integer"
+		if b, is := l.under(x.X).(*types.Basic); is && b.Info()&types.IsInteger != 0 {
+			return []string{"range-integer"}
+		}
+	case *ast.BinaryExpr:
+		if _, is := l.under(x.X).(*types.Struct); is && (x.Op == token.EQL || x.Op == token.NEQ) {
+			return []string{"struct-compared"}
+		}
+	case *ast.CallExpr:
+		f := ast.Unparen(x.Fun)
+		l.called[f] = true // the walk comes to f behind this node
+		if id, is := f.(*ast.Ident); is {
+			if b, is := l.info.Uses[id].(*types.Builtin); is {
+				return []string{b.Name()}
+			}
 		}
 	}
-	return ""
+	return nil
+}
+
+// under is what kind of type an expression has.
+func (l *look) under(e ast.Expr) types.Type { return l.info.Types[e].Type.Underlying() }
+
+func (l *look) waysOfSelector(x *ast.SelectorExpr) []string {
+	var ways []string
+	s := l.info.Selections[x]
+	if s != nil && len(s.Index()) > 1 {
+		ways = append(ways, "promoted")
+	}
+	if s != nil && s.Kind() == types.MethodVal && !l.called[x] {
+		ways = append(ways, "method-value")
+	}
+	return ways
 }
 
 // TestWays: each stage's packages have the ways of the language that the document names for them.
@@ -96,7 +122,9 @@ func TestWays(t *testing.T) {
 			}
 			for _, f := range l.files[p] {
 				ast.Inspect(f, func(n ast.Node) bool {
-					delete(missing, l.way(n))
+					for _, w := range l.ways(n) {
+						delete(missing, w)
+					}
 					return true
 				})
 			}
