@@ -17,6 +17,7 @@ func stages() []stage {
 	return []stage{
 		{"bits word", "variadic closure embedding promoted range-integer"},
 		{"poly frame", "method-value variadic struct-compared clear copy"},
+		{"wire filter", "panic recover defer assertion label variadic range-function"},
 	}
 }
 
@@ -73,10 +74,16 @@ func (l *look) ways(n ast.Node) []string {
 		}
 	case *ast.SelectorExpr:
 		return l.waysOfSelector(x)
-	case *ast.RangeStmt:
-		if b, is := l.under(x.X).(*types.Basic); is && b.Info()&types.IsInteger != 0 {
-			return []string{"range-integer"}
+	case *ast.DeferStmt:
+		return []string{"defer"}
+	case *ast.LabeledStmt:
+		return []string{"label"}
+	case *ast.TypeAssertExpr:
+		if x.Type != nil {
+			return []string{"assertion"}
 		}
+	case *ast.RangeStmt:
+		return l.waysOfRange(x)
 	case *ast.BinaryExpr:
 		if _, is := l.under(x.X).(*types.Struct); is && (x.Op == token.EQL || x.Op == token.NEQ) {
 			return []string{"struct-compared"}
@@ -95,6 +102,18 @@ func (l *look) ways(n ast.Node) []string {
 
 // under is what kind of type an expression has.
 func (l *look) under(e ast.Expr) types.Type { return l.info.Types[e].Type.Underlying() }
+
+func (l *look) waysOfRange(x *ast.RangeStmt) []string {
+	switch over := l.under(x.X).(type) {
+	case *types.Basic:
+		if over.Info()&types.IsInteger != 0 {
+			return []string{"range-integer"}
+		}
+	case *types.Signature:
+		return []string{"range-function"}
+	}
+	return nil
+}
 
 func (l *look) waysOfSelector(x *ast.SelectorExpr) []string {
 	var ways []string
