@@ -18,6 +18,7 @@ func stages() []stage {
 		{"bits word", "variadic closure embedding promoted range-integer"},
 		{"poly frame", "method-value variadic struct-compared clear copy"},
 		{"wire filter", "panic recover defer assertion label variadic range-function"},
+		{"fifo shelf", "generic-type generic-function range-function"},
 	}
 }
 
@@ -66,6 +67,14 @@ func (l *look) ways(n ast.Node) []string {
 		}
 	case *ast.FuncLit:
 		return []string{"closure"}
+	case *ast.FuncDecl:
+		if x.Type.TypeParams != nil {
+			return []string{"generic-function"}
+		}
+	case *ast.TypeSpec:
+		if x.TypeParams != nil {
+			return []string{"generic-type"}
+		}
 	case *ast.StructType:
 		for _, f := range x.Fields.List {
 			if len(f.Names) == 0 {
