@@ -19,6 +19,7 @@ func stages() []stage {
 		{"poly frame", "method-value variadic struct-compared clear copy"},
 		{"wire filter", "panic recover defer assertion label variadic range-function"},
 		{"fifo shelf", "generic-type generic-function range-function"},
+		{"mailbox arb", "range-function variadic closure"},
 	}
 }
 
