@@ -20,6 +20,7 @@ func stages() []stage {
 		{"wire filter", "panic recover defer assertion label variadic range-function"},
 		{"fifo shelf", "generic-type generic-function range-function"},
 		{"mailbox arb", "range-function variadic closure"},
+		{"gate timer", "variadic fallthrough generic-type range-function"},
 	}
 }
 
@@ -88,6 +89,10 @@ func (l *look) ways(n ast.Node) []string {
 		return []string{"defer"}
 	case *ast.LabeledStmt:
 		return []string{"label"}
+	case *ast.BranchStmt:
+		if x.Tok == token.FALLTHROUGH {
+			return []string{"fallthrough"}
+		}
 	case *ast.TypeAssertExpr:
 		if x.Type != nil {
 			return []string{"assertion"}
