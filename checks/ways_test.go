@@ -21,6 +21,7 @@ func stages() []stage {
 		{"fifo shelf", "generic-type generic-function range-function"},
 		{"mailbox arb", "range-function variadic closure"},
 		{"gate timer", "variadic fallthrough generic-type range-function"},
+		{"value dict", "fallthrough range-function"},
 	}
 }
 
