@@ -22,6 +22,7 @@ func stages() []stage {
 		{"mailbox arb", "range-function variadic closure"},
 		{"gate timer", "variadic fallthrough generic-type range-function"},
 		{"value dict", "fallthrough range-function"},
+		{"area sign", "range-function method-value variadic"},
 	}
 }
 
