@@ -23,6 +23,7 @@ func stages() []stage {
 		{"gate timer", "variadic fallthrough generic-type range-function"},
 		{"value dict", "fallthrough range-function"},
 		{"area sign", "range-function method-value variadic"},
+		{"sdomsg chunk", "array-compared fallthrough array embedding"},
 	}
 }
 
@@ -101,10 +102,12 @@ func (l *look) ways(n ast.Node) []string {
 		}
 	case *ast.RangeStmt:
 		return l.waysOfRange(x)
-	case *ast.BinaryExpr:
-		if _, is := l.under(x.X).(*types.Struct); is && (x.Op == token.EQL || x.Op == token.NEQ) {
-			return []string{"struct-compared"}
+	case *ast.ArrayType:
+		if x.Len != nil {
+			return []string{"array"}
 		}
+	case *ast.BinaryExpr:
+		return l.waysOfPair(x)
 	case *ast.CallExpr:
 		f := ast.Unparen(x.Fun)
 		l.called[f] = true // the walk comes to f behind this node
@@ -128,6 +131,19 @@ func (l *look) waysOfRange(x *ast.RangeStmt) []string {
 		}
 	case *types.Signature:
 		return []string{"range-function"}
+	}
+	return nil
+}
+
+func (l *look) waysOfPair(x *ast.BinaryExpr) []string {
+	if x.Op != token.EQL && x.Op != token.NEQ {
+		return nil
+	}
+	switch l.under(x.X).(type) {
+	case *types.Struct:
+		return []string{"struct-compared"}
+	case *types.Array:
+		return []string{"array-compared"}
 	}
 	return nil
 }
