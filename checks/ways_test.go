@@ -24,6 +24,7 @@ func stages() []stage {
 		{"value dict", "fallthrough range-function"},
 		{"area sign", "range-function method-value variadic"},
 		{"sdomsg chunk", "array-compared fallthrough array embedding"},
+		{"serve client", "method-value iota"},
 	}
 }
 
@@ -108,6 +109,10 @@ func (l *look) ways(n ast.Node) []string {
 		}
 	case *ast.BinaryExpr:
 		return l.waysOfPair(x)
+	case *ast.Ident:
+		if o := l.info.Uses[x]; o != nil && o.Parent() == types.Universe && o.Name() == "iota" {
+			return []string{"iota"}
+		}
 	case *ast.CallExpr:
 		f := ast.Unparen(x.Fun)
 		l.called[f] = true // the walk comes to f behind this node
