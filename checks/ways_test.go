@@ -25,6 +25,7 @@ func stages() []stage {
 		{"area sign", "range-function method-value variadic"},
 		{"sdomsg chunk", "array-compared fallthrough array embedding"},
 		{"serve client", "method-value iota"},
+		{"nmt beat", "fallthrough range-function"},
 	}
 }
 
