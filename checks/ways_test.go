@@ -26,6 +26,7 @@ func stages() []stage {
 		{"sdomsg chunk", "array-compared fallthrough array embedding"},
 		{"serve client", "method-value iota"},
 		{"nmt beat", "fallthrough range-function"},
+		{"pulse emcy", "embedding promoted variadic"},
 	}
 }
 
