@@ -27,6 +27,7 @@ func stages() []stage {
 		{"serve client", "method-value iota"},
 		{"nmt beat", "fallthrough range-function"},
 		{"pulse emcy", "embedding promoted variadic"},
+		{"pmap pdo", "variadic array struct-compared fallthrough"},
 	}
 }
 
