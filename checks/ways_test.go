@@ -28,6 +28,7 @@ func stages() []stage {
 		{"nmt beat", "fallthrough range-function"},
 		{"pulse emcy", "embedding promoted variadic"},
 		{"pmap pdo", "variadic array struct-compared fallthrough"},
+		{"pair guard", "closure"},
 	}
 }
 
