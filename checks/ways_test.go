@@ -29,6 +29,7 @@ func stages() []stage {
 		{"pulse emcy", "embedding promoted variadic"},
 		{"pmap pdo", "variadic array struct-compared fallthrough"},
 		{"pair guard", "closure"},
+		{"prod cons", "closure struct-compared embedding promoted"},
 	}
 }
 
