@@ -30,6 +30,7 @@ func stages() []stage {
 		{"pmap pdo", "variadic array struct-compared fallthrough"},
 		{"pair guard", "closure"},
 		{"prod cons", "closure struct-compared embedding promoted"},
+		{"latch image", "range-function closure"},
 	}
 }
 
